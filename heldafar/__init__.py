@@ -1,0 +1,1 @@
+"""heldafar: things held across houses by letters."""

@@ -1,0 +1,83 @@
+"""Pictures for the tests."""
+
+import random
+
+NO_HANDS = (None, None, None, None)
+
+
+def thing(home, number, *fields):
+    return ((home, number), "thing", fields)
+
+
+def mark(home, number, field=None):
+    return ((home, number), "mark", (field,))
+
+
+def part(things=(), hands=(), still=()):
+    """A house: its hands are filled up with None to four."""
+    return (tuple(hands) + NO_HANDS[len(hands):] + tuple(still), tuple(things))
+
+
+def picture(*parts, letters=()):
+    return (parts, tuple(letters))
+
+
+def one_house(*things, hands=()):
+    return picture(part(things, hands))
+
+
+def chain():
+    """320 things in eight houses; each points to the next one, from house to house; a hand has the first."""
+    names = [(home, number) for number in range(40) for home in range(8)]
+    following = dict(zip(names, names[1:] + [None]))
+    parts = [part([thing(home, number, following[(home, number)]) for number in range(40)],
+                  [names[0]] if home == 0 else []) for home in range(8)]
+    return picture(*parts), names
+
+
+def ladder(rungs):
+    """Two things on each rung, both with two ways to each of the next: 4 ** rungs ways to the last."""
+    def pair(rung):
+        return [(rung // 20, 2 * (rung % 20)), (rung // 20, 2 * (rung % 20) + 1)]
+    things = [[] for home in range(8)]
+    for rung in range(rungs):
+        low, high = pair(rung + 1) if rung + 1 < rungs else (None, None)
+        for name in pair(rung):
+            things[name[0]].append((name, "thing", (high, low, high, low)))
+    hands = pair(0)
+    return picture(*[part(things[home], hands if home == 0 else []) for home in range(8)]), pair(rungs - 1)
+
+
+def random_thing(source, name, names):
+    if source.random() < 0.2:
+        return (name, "mark", (source.choice(names + [None]),))
+    fields = tuple(source.choice(names + [None] * 3) for place in range(source.randrange(5)))
+    return (name, "thing", fields)
+
+
+def random_letter(source, many, names):
+    sender, to = source.sample(range(many), 2)
+    return (sender, to, tuple(source.choice(names) for place in range(source.randint(1, 3))))
+
+
+def random_picture(seed):
+    """A small picture with few hands and letters, so that much can't be come to."""
+    source = random.Random(seed)
+    many = source.randint(1, 4)
+    names = [(home, number) for home in range(many)
+             for number in sorted(source.sample(range(100), source.randrange(5)))]
+    parts = []
+    for home in range(many):
+        own = [random_thing(source, name, names) for name in names if name[0] == home]
+        hands = [source.choice(names) if names and source.random() < 0.15 else None for place in range(4)]
+        still = [source.choice(names) for place in range(source.choice([0, 0, 0, 1, 2]))] if names else []
+        parts.append(part(own, hands, still))
+    letters = []
+    if many > 1 and names:
+        letters = [random_letter(source, many, names) for place in range(source.choice([0, 0, 1, 2]))]
+    return picture(*parts, letters=letters)
+
+
+def all_names(told):
+    """The names of all things of a picture, rising."""
+    return sorted(entry[0] for hands, things in told[0] for entry in things)
