@@ -111,8 +111,13 @@ def is_of_form(picture):
 
 
 def fields_by_name(picture):
-    """A dict: for each thing's name, by house and number, its fields."""
+    """A dict: for each thing's name, rising as houses and things do, its fields."""
     return {name: fields for hands, things in picture[0] for name, sort, fields in things}
+
+
+def letter_names(picture):
+    """A tuple of the names of each letter, in order."""
+    return tuple([names for sender, to, names in picture[1]])
 
 
 def pointers(picture):
@@ -122,7 +127,7 @@ def pointers(picture):
         found.extend(hands)
         for name, sort, fields in things:
             found.extend(fields)
-    for sender, to, names in picture[1]:
+    for names in letter_names(picture):
         found.extend(names)
     return found
 

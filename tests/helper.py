@@ -3,6 +3,9 @@
 import random
 
 NO_HANDS = (None, None, None, None)
+# Names of no thing, where at most (0, 0) is one.
+NO_THINGS = ((0, 1), (0, 100), (0, -1), (1, 0), (8, 0), (-1, 0), (10 ** 5000, 0), (0, 10 ** 5000), (False, 0),
+             (0, False))
 
 
 def thing(home, number, *fields):
@@ -81,3 +84,18 @@ def random_picture(seed):
 def all_names(told):
     """The names of all things of a picture, rising."""
     return sorted(entry[0] for hands, things in told[0] for entry in things)
+
+
+def slowly_reached(told):
+    """The words of the document, done over and over till nothing more comes."""
+    houses, letters = told
+    found = {name for hands, things in houses for name in hands if name is not None}
+    found |= {name for sender, to, names in letters for name in names}
+    before = None
+    while found != before:
+        before = set(found)
+        for hands, things in houses:
+            for name, sort, fields in things:
+                if name in before:
+                    found |= {field for field in fields if field is not None}
+    return tuple(sorted(found))

@@ -1,5 +1,6 @@
 import copy
 import unittest
+from unittest import mock
 
 from heldafar.errors import NoPicture
 from heldafar.pictures import look_at_picture
@@ -142,6 +143,12 @@ class FormTest(LookTest):
     def test_sorts(self):
         for sort in ("", "Thing", "MARK", "things", "hand", None, 0, True, [], {}, ("thing",), b"thing", b"mark"):
             self.refused(one_house(((0, 0), sort, (None,))))
+
+    def test_what_is_equal_to_everything(self):
+        self.refused(one_house(((0, 0), mock.ANY, ())))
+        self.refused(one_house(((0, 0), "thing", (mock.ANY,))))
+        self.refused(one_house(((0, mock.ANY), "thing", ())))
+        self.refused(mock.ANY)
 
     def test_many_fields(self):
         self.refused(one_house(thing(0, 0, *[None] * 5)))

@@ -152,8 +152,10 @@ class NoTextTest(unittest.TestCase):
         for old, new in (("house 2 - - - -", "house 2 - - -"), ("house 2 - - - -", "house 2 - - - - -"),
                          ("house 2 - - - -", "house 2 - - - -" + " 0:0" * 7), ("house 2 -", "house 2 0:1"),
                          ("house 2 -", "house 2 3:0"), ("thing 1:11 -", "thing 1:11 - - - - -"),
-                         ("mark 0:99 -", "mark 0:99"), ("mark 0:99 -", "mark 0:99 - -"), ("mark 0:99 -", "mark 0:100 -"),
-                         ("thing 0:0", "thing 1:0"), ("thing 0:0", "thing 0:4"), ("letter 0 2 1:10", "letter 0 2 1:12")):
+                         ("mark 0:99 -", "mark 0:99"), ("mark 0:99 -", "mark 0:99 - -"),
+                         ("mark 0:99 -", "mark 0:100 -"),
+                         ("thing 0:0", "thing 1:0"), ("thing 0:0", "thing 0:4"),
+                         ("letter 0 2 1:10", "letter 0 2 1:12")):
             self.changed(old, new)
         rows = [f"thing 0:{number}" for number in range(41)]
         self.refused(text_of(["houses 1", "house 0 - - - -"] + rows))
