@@ -145,7 +145,7 @@ class FormTest(LookTest):
             self.refused(one_house(((0, 0), sort, (None,))))
 
     def test_what_is_equal_to_everything(self):
-        self.refused(one_house(((0, 0), mock.ANY, ())))
+        self.refused(one_house(((0, 0), mock.ANY, (None,))))
         self.refused(one_house(((0, 0), "thing", (mock.ANY,))))
         self.refused(one_house(((0, mock.ANY), "thing", ())))
         self.refused(mock.ANY)
