@@ -30,27 +30,40 @@ def fewest_steps(fields, needed, first):
     return tuple(steps)
 
 
-def wanted_for(picture, name):
-    """The first wanted paper of name with the fewest steps, or None."""
-    fields = things_fields(picture, name)
+def nearest_way(fields, leading, name):
+    """Of these pairs of a start and its name the first with the fewest steps to name: start and steps; or None."""
     # Going back from name tells how far off each thing is; going all ways from the starts would not end in time.
     needed = come_to(pointing(fields), [name])
-    leading = [(start, first) for start, first in starts(picture) if first in needed]
-    if not leading:
+    near = [(start, first) for start, first in leading if first in needed]
+    if not near:
         return None
     # Of several least ones min tells the first, and starts come in their order.
-    start, first = min(leading, key=lambda pair: needed[pair[1]])
-    return ("wanted", name, start, fewest_steps(fields, needed, first))
+    start, first = min(near, key=lambda pair: needed[pair[1]])
+    return (start, fewest_steps(fields, needed, first))
+
+
+def wanted_for(picture, name):
+    """The first wanted paper of name with the fewest steps, or None."""
+    way = nearest_way(things_fields(picture, name), starts(picture), name)
+    if way is None:
+        return None
+    start, steps = way
+    return ("wanted", name, start, steps)
+
+
+def cut_of(picture, names):
+    """The cut of these names, which rise."""
+    return ("cut", tuple(names), letter_names(picture))
 
 
 def cut_for(picture):
     """The cut of all that can't be come to, or None where there is nothing."""
     fields = fields_by_name(picture)
     found = come_to(fields, [name for start, name in starts(picture)])
-    names = tuple([name for name in fields if name not in found])
+    names = [name for name in fields if name not in found]
     if not names:
         return None
-    return ("cut", names, letter_names(picture))
+    return cut_of(picture, names)
 
 
 def why(picture, name):

@@ -2,10 +2,14 @@
 
 import random
 
+from heldafar.papers import cut_holds, pointed_holds, wanted_holds
+
 NO_HANDS = (None, None, None, None)
 # Names of no thing, where at most (0, 0) is one.
 NO_THINGS = ((0, 1), (0, 100), (0, -1), (1, 0), (8, 0), (-1, 0), (10 ** 5000, 0), (0, 10 ** 5000), (False, 0),
              (0, False))
+# What may be handed in for a number, and is none.
+NO_NUMBERS = (True, False, None, "", "0", b"0", (), (0,), [0], {})
 
 
 def thing(home, number, *fields):
@@ -86,16 +90,39 @@ def all_names(told):
     return sorted(entry[0] for hands, things in told[0] for entry in things)
 
 
-def slowly_reached(told):
-    """The words of the document, done over and over till nothing more comes."""
+def held(told):
+    """The names that a hand or a letter points to."""
     houses, letters = told
-    found = {name for hands, things in houses for name in hands if name is not None}
-    found |= {name for sender, to, names in letters for name in names}
+    return ({name for hands, things in houses for name in hands if name is not None}
+            | {name for sender, to, names in letters for name in names})
+
+
+def slowly_come_to(told, names):
+    """The words of the document, done over and over till nothing more comes."""
+    found = set(names)
     before = None
     while found != before:
         before = set(found)
-        for hands, things in houses:
+        for hands, things in told[0]:
             for name, sort, fields in things:
                 if name in before:
                     found |= {field for field in fields if field is not None}
-    return tuple(sorted(found))
+    return found
+
+
+def slowly_reached(told):
+    return tuple(sorted(slowly_come_to(told, held(told))))
+
+
+def lets_by(told, paper):
+    """Whether the checker of the paper's first word lets it by."""
+    checkers = {"wanted": wanted_holds, "cut": cut_holds, "pointed": pointed_holds}
+    return checkers[paper[0]](told, paper) is True
+
+
+def ring(many, length):
+    """A ring of so many things, each in the house behind the one before; a hand has none of them."""
+    names = [(place % many, place // many) for place in range(length)]
+    following = dict(zip(names, names[1:] + names[:1]))
+    return picture(*[part([thing(*name, following[name]) for name in names if name[0] == home])
+                     for home in range(many)])
