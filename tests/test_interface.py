@@ -11,12 +11,16 @@ FUNCTIONS = {
     "reasons": ("wanted_for", "cut_for", "why"),
     "mail": ("mail_holds",),
 }
+PART = ("hand_on", "got", "is_held", "pinned", "let_go", "take", "lapse", "knows", "copied")
 CLASSES = {
     "ringways": ("RingWay", ("seek", "verdicts")),
     "trial": ("Trial", ("seek", "verdicts")),
     "marks": ("Marks", ("seek", "verdicts", "rounds")),
     "track": ("Track", ("seek", "verdicts", "gone")),
     "mail": ("Mail", ("write", "packets", "unowned", "written", "done", "take", "copied")),
+    "net": ("Net", ("put", "under_way", "come", "double", "lose", "copied")),
+    "parts": ("Part", PART),
+    "listpart": ("ListPart", PART + ("told",)),
 }
 
 
