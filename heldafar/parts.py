@@ -19,6 +19,10 @@ class Part:
         """Whether an own name may be held from afar."""
         return False
 
+    def is_over(self, extra):
+        """Whether a pointer with that beside its name has lapsed; only leases do."""
+        return False
+
     def pinned(self):
         """A tuple of the names of others that must be kept, rising."""
         return ()

@@ -126,3 +126,76 @@ def ring(many, length):
     following = dict(zip(names, names[1:] + names[:1]))
     return picture(*[part([thing(*name, following[name]) for name in names if name[0] == home])
                      for home in range(many)])
+
+
+class Neighbours:
+    """Four houses that hand names to one another; what each wrote to another comes in order."""
+
+    def __init__(self, seed, made):
+        self.source = random.Random(seed)
+        self.houses = range(4)
+        self.parts = [made(house) for house in self.houses]
+        self.has = [set() for house in self.houses]
+        self.rows = {(sender, to): [] for sender in self.houses for to in self.houses if sender != to}
+        # Each has an own name at first, which it may lose and be handed again.
+        for house in self.houses:
+            self.has[house].add((house, 0))
+
+    def write(self, sender, letters):
+        for to, body in letters:
+            self.rows[(sender, to)].append(body)
+
+    def hand_on(self):
+        sender, to = self.source.sample(self.houses, 2)
+        if self.has[sender]:
+            name = self.source.choice(sorted(self.has[sender]))
+            extra, letters = self.parts[sender].hand_on(name, to)
+            # Either may be written first: they go to unlike houses.
+            self.write(sender, [(to, ("hand", name, extra))] + letters)
+
+    def drop(self):
+        house = self.source.choice(self.houses)
+        others = sorted(name for name in self.has[house] if name[0] != house)
+        if others:
+            self.has[house].discard(self.source.choice(others))
+
+    def let_go(self, house):
+        still = tuple(sorted(name for name in self.has[house] if name[0] != house))
+        self.write(house, self.parts[house].let_go(still))
+
+    def come(self, way):
+        sender, to = way
+        body = self.rows[way].pop(0)
+        if body[0] == "hand":
+            self.parts[to].got(body[1], body[2])
+            self.has[to].add(body[1])
+        else:
+            self.write(to, self.parts[to].take(sender, body))
+
+    def come_one(self):
+        ways = [way for way in self.rows if self.rows[way]]
+        if ways:
+            self.come(self.source.choice(ways))
+
+    def come_all(self):
+        while any(self.rows.values()):
+            self.come_one()
+
+    def run(self, many, check):
+        """So many steps, and a look behind each of them."""
+        for step in range(many):
+            word = self.source.choice(["hand_on", "drop", "let_go", "come", "come", "come"])
+            if word == "hand_on":
+                self.hand_on()
+            elif word == "drop":
+                self.drop()
+            elif word == "let_go":
+                self.let_go(self.source.choice(self.houses))
+            else:
+                self.come_one()
+            check()
+
+    def held_from_afar(self):
+        """Names that another house than their home has, or a letter under way to another."""
+        names = {name for house in self.houses for name in self.has[house] if name[0] != house}
+        return names | {body[1] for row in self.rows.values() for body in row if body[0] == "hand"}

@@ -21,6 +21,8 @@ CLASSES = {
     "net": ("Net", ("put", "under_way", "come", "double", "lose", "copied")),
     "parts": ("Part", PART),
     "listpart": ("ListPart", PART + ("told",)),
+    "weightpart": ("WeightPart", PART + ("out", "weight")),
+    "leasepart": ("LeasePart", PART + ("lease",)),
 }
 
 

@@ -1,8 +1,8 @@
-import random
 import unittest
 
 from heldafar.listpart import ListPart
 from heldafar.parts import Part
+from tests.helper import Neighbours
 
 OWN = (1, 4)
 OTHER = (0, 3)
@@ -290,82 +290,10 @@ class CopiedTest(unittest.TestCase):
             self.assertEqual(there.told(OWN), ((2, 1),))
 
 
-class Neighbours:
-    """Four houses that hand names to one another; what each wrote to another comes in order."""
-
-    def __init__(self, seed):
-        self.source = random.Random(seed)
-        self.houses = range(4)
-        self.parts = [ListPart(house) for house in self.houses]
-        self.has = [set() for house in self.houses]
-        self.rows = {(sender, to): [] for sender in self.houses for to in self.houses if sender != to}
-        # Each has an own name at first, which it may lose and be handed again.
-        for house in self.houses:
-            self.has[house].add((house, 0))
-
-    def write(self, sender, letters):
-        for to, body in letters:
-            self.rows[(sender, to)].append(body)
-
-    def hand_on(self):
-        sender, to = self.source.sample(self.houses, 2)
-        if self.has[sender]:
-            name = self.source.choice(sorted(self.has[sender]))
-            extra, letters = self.parts[sender].hand_on(name, to)
-            # Either may be written first: they go to unlike houses.
-            self.write(sender, [(to, ("hand", name, extra))] + letters)
-
-    def drop(self):
-        house = self.source.choice(self.houses)
-        others = sorted(name for name in self.has[house] if name[0] != house)
-        if others:
-            self.has[house].discard(self.source.choice(others))
-
-    def let_go(self, house):
-        still = tuple(sorted(name for name in self.has[house] if name[0] != house))
-        self.write(house, self.parts[house].let_go(still))
-
-    def come(self, way):
-        sender, to = way
-        body = self.rows[way].pop(0)
-        if body[0] == "hand":
-            self.parts[to].got(body[1], body[2])
-            self.has[to].add(body[1])
-        else:
-            self.write(to, self.parts[to].take(sender, body))
-
-    def come_one(self):
-        ways = [way for way in self.rows if self.rows[way]]
-        if ways:
-            self.come(self.source.choice(ways))
-
-    def come_all(self):
-        while any(self.rows.values()):
-            self.come_one()
-
-    def held_from_afar(self):
-        """Names that another house than their home has, or a letter under way to another."""
-        names = {name for house in self.houses for name in self.has[house] if name[0] != house}
-        return names | {body[1] for row in self.rows.values() for body in row if body[0] == "hand"}
-
-
 class SeveralPartsTest(unittest.TestCase):
     def check_held(self, seed, world):
         for name in world.held_from_afar():
             self.assertTrue(world.parts[name[0]].is_held(name), (seed, name))
-
-    def run_some(self, seed, world):
-        for step in range(200):
-            word = world.source.choice(["hand_on", "drop", "let_go", "come", "come", "come"])
-            if word == "hand_on":
-                world.hand_on()
-            elif word == "drop":
-                world.drop()
-            elif word == "let_go":
-                world.let_go(world.source.choice(world.houses))
-            else:
-                world.come_one()
-            self.check_held(seed, world)
 
     def check_nothing_left(self, world):
         for house in world.houses:
@@ -383,6 +311,6 @@ class SeveralPartsTest(unittest.TestCase):
 
     def test_what_is_held_stays_held_and_what_is_let_go_of_goes(self):
         for seed in range(60):
-            world = Neighbours(seed)
-            self.run_some(seed, world)
+            world = Neighbours(seed, ListPart)
+            world.run(200, lambda: self.check_held(seed, world))
             self.check_nothing_left(world)
