@@ -18,6 +18,15 @@ def answer_of(entry, field):
     return ("value", fields[field])
 
 
+def told_here(room, name, field, new):
+    """What a home answers to a tell; where there is such a field, it has the new name from now on."""
+    word, found = answer_of(room.entry(name), field)
+    if word != "value":
+        return (word, found)
+    room.fill(name, field, new)
+    return ("done", None)
+
+
 class Ask:
     """An ask, a tell or a move that waits."""
 
@@ -84,3 +93,52 @@ class Asks:
         other.answers = list(self.answers)
         other.waiting = {number: ask.copied() for number, ask in self.waiting.items()}
         return other
+
+
+def pose(house, number, ask):
+    """Writes an ask, or a tell, to the home of the name that is asked."""
+    to = ask.asked[0]
+    pointer = house.handed(ask.asked, to)
+    if ask.word == "ask":
+        house.mail.write(to, ("ask", number, pointer, ask.field))
+    else:
+        house.mail.write(to, ("tell", number, pointer, ask.field, house.handed(ask.given, to)))
+
+
+def posed_here(house, ask):
+    """The answer to an ask, or a tell, of a name of this house itself."""
+    if ask.word == "ask":
+        return answer_of(house.room.entry(ask.asked), ask.field)
+    return told_here(house.room, ask.asked, ask.field, ask.given)
+
+
+def end_ask(house, number, ask, word, name):
+    """The ask, or the tell, waits no more."""
+    if ask.word == "ask" and word == "value":
+        house.room.grips[ask.given] = name
+        house.asks.finish(number, ("value", name))
+    else:
+        house.asks.finish(number, (word,))
+
+
+def follow(house, number, ask, word, name):
+    """Does what the answer to an ask, or a tell, says: from a mark it goes on to what that has."""
+    while word == "mark" and name is not None:
+        house.exchange(ask.asked, name)
+        ask.asked = name
+        if name[0] != house.number:
+            pose(house, number, ask)
+            return
+        word, name = posed_here(house, ask)
+    # A mark of nothing, and one whose pointer lapsed on its way here, leads nowhere.
+    end_ask(house, number, ask, "gone" if word == "mark" else word, name)
+
+
+def end_move(house, number, ask, word, name):
+    """The thing becomes a mark of the new one, if that came and has all that it has; else it is kept."""
+    if word == "value" and name is not None and house.room.entry(ask.asked) == ("thing", ask.given):
+        house.room.become_mark(ask.asked, name)
+        house.exchange(ask.asked, name)
+        house.asks.finish(number, ("value", name))
+    else:
+        house.asks.finish(number, ("kept",))

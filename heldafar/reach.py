@@ -17,7 +17,10 @@ def starts(picture):
 
 
 def come_to(pointed, names):
-    """A dict of these names and of all that can be come to from them, with how many steps each takes."""
+    """A dict of these names and of all that can be come to from them, with how many steps each takes.
+
+    Names that aren't among the pointed ones lead nowhere: a house knows no more of those of others.
+    """
     found = {}
     layer = names
     many = 0
@@ -26,7 +29,7 @@ def come_to(pointed, names):
         for name in layer:
             if name not in found:
                 found[name] = many
-                coming.extend([other for other in pointed[name] if other is not None])
+                coming.extend([other for other in pointed.get(name, ()) if other is not None])
         layer = coming
         many += 1
     return found

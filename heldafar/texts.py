@@ -2,18 +2,10 @@
 
 from heldafar.errors import NoPicture, NoText
 from heldafar.pictures import is_number, is_sized, look_at_picture
+from heldafar.steps import is_long_enough
 
 MOST_FIGURES = 9
 LARGEST = 999999999
-
-# How many numbers stand behind the word of a step: of a house's own steps, and of the world's.
-HOUSE_STEPS = {
-    "make": 2, "copy": 2, "drop": 1, "put": 3, "take": 3, "send": 3,
-    "ask": 3, "tell": 3, "move": 2, "sweep": 0, "picture": 0, "free": 1,
-}
-WORLD_STEPS = {
-    "save": 1, "fall": 1, "come": 1, "double": 1, "lose": 1, "tick": 0, "round": 0,
-}
 
 
 def rows_of(text):
@@ -103,13 +95,6 @@ def picture_read(text):
     return picture
 
 
-def numbers_behind(word, at_house):
-    """How many numbers a step has behind its word, or None where there is no such step."""
-    if at_house:
-        return HOUSE_STEPS.get(word)
-    return WORLD_STEPS.get(word)
-
-
 def number_shown(number):
     """A step's number as a word."""
     if not is_number(number) or not 0 <= number <= LARGEST:
@@ -121,7 +106,7 @@ def plain_step_shown(step, at_house):
     """A step of a house, or of the world, as words."""
     if not isinstance(step, tuple) or len(step) == 0 or not isinstance(step[0], str):
         raise NoText("this is no step")
-    if numbers_behind(step[0], at_house) != len(step) - 1:
+    if not is_long_enough(step, at_house):
         raise NoText("this is no step")
     return " ".join([step[0]] + [number_shown(number) for number in step[1:]])
 
@@ -140,7 +125,7 @@ def run_shown(steps):
 
 def plain_step_read(words, at_house):
     """The step of a house, or of the world, that the words show."""
-    if numbers_behind(words[0], at_house) != len(words) - 1:
+    if not is_long_enough(words, at_house):
         raise NoText("this is no step")
     return (words[0],) + tuple([number_read(word) for word in words[1:]])
 

@@ -1,7 +1,9 @@
-"""Pictures for the tests."""
+"""Pictures, parts and houses for the tests."""
 
 import random
 
+from heldafar.errors import NoThing
+from heldafar.house import House
 from heldafar.papers import cut_holds, pointed_holds, wanted_holds
 
 NO_HANDS = (None, None, None, None)
@@ -199,3 +201,66 @@ class Neighbours:
         """Names that another house than their home has, or a letter under way to another."""
         names = {name for house in self.houses for name in self.has[house] if name[0] != house}
         return names | {body[1] for row in self.rows.values() for body in row if body[0] == "hand"}
+
+
+WAYS = ("lists", "weights", "leases")
+# What stands beside a name in a letter, by each way: at time 0 no such lease is over.
+EXTRAS = {"lists": 0, "weights": (1, 2), "leases": 8}
+
+
+def pointer(way, home, number):
+    return ((home, number), EXTRAS[way])
+
+
+def part_state(part, many):
+    """All that a part tells of any name."""
+    names = [(home, number) for home in range(many) for number in range(100)]
+    told = [(name, part.is_held(name), part.knows(name)) for name in names if part.is_held(name) or part.knows(name)]
+    for method in ("told", "out", "weight", "lease"):
+        if hasattr(part, method):
+            told.append([getattr(part, method)(name) for name in names])
+    return told, part.pinned()
+
+
+def asks_told(house):
+    """What all asks of a house were told."""
+    answers = []
+    try:
+        while True:
+            answers.append(house.told(len(answers)))
+    except NoThing:
+        return answers
+
+
+def house_state(house):
+    """All that a house tells."""
+    return (house.hands(), house.still(), house.things(), house.events(), house.taken(), asks_told(house),
+            house.mail.packets(), [house.mail.done(other) for other in range(house.many) if other != house.number],
+            part_state(house.part, house.many))
+
+
+def world_state(world):
+    """All that a world tells of its houses, and what each would be behind a fall; not what came of its steps."""
+    return ([house_state(house) for house in world.houses], [house_state(house) for house in world.saved],
+            world.net.under_way(), world.time)
+
+
+def fields_of(house, number):
+    """Sort and fields of what stands there, or None."""
+    for name, sort, fields in house.things():
+        if name == (house.number, number):
+            return sort, fields
+    return None
+
+
+def house_with(way, *sizes, number=0, many=3):
+    """A house with things of so many fields, the first four of them in its hands; no letters."""
+    house = House(number, many, way)
+    for hand, size in enumerate(sizes):
+        house.do(("make", hand, size))
+    return house
+
+
+def to_hand(house, hand, home, number):
+    """A name of another house, or an own one, comes to a hand by a letter of the next house."""
+    house.hear((house.number + 1) % house.many, ("hand", hand, pointer(house.way, home, number)))
