@@ -2,9 +2,10 @@
 
 import random
 
-from heldafar.errors import NoThing
+from heldafar.errors import FarError, NoThing
 from heldafar.house import House
 from heldafar.papers import cut_holds, pointed_holds, wanted_holds
+from heldafar.world import World
 
 NO_HANDS = (None, None, None, None)
 # Names of no thing, where at most (0, 0) is one.
@@ -264,3 +265,68 @@ def house_with(way, *sizes, number=0, many=3):
 def to_hand(house, hand, home, number):
     """A name of another house, or an own one, comes to a hand by a letter of the next house."""
     house.hear((house.number + 1) % house.many, ("hand", hand, pointer(house.way, home, number)))
+
+
+def drawn_house_step(source, house):
+    """A step that is often not refused; those that look at what is in hand are."""
+    hands = house.hands()
+    full = [hand for hand in range(4) if hands[hand] is not None]
+    own = [hand for hand in full if hands[hand][0] == house.number]
+    others = [hand for hand in full if hands[hand][0] != house.number]
+    away = [other for other in range(house.many) if other != house.number]
+
+    def numbers(*choices):
+        return tuple(source.choice(choice) for choice in choices)
+    any_hand, fields = range(4), (0, 0, 1, 1, 2)
+    forms = [("make", (any_hand, (1, 2, 2, 3))), ("drop", (any_hand,)), ("copy", (any_hand, any_hand)),
+             ("put", (own, fields, any_hand)), ("take", (own, fields, any_hand)), ("send", (any_hand, away, any_hand)),
+             ("send", (full, away, any_hand)), ("send", (full, away, any_hand)), ("put", (own, fields, full)),
+             ("ask", (others, fields, any_hand)), ("ask", (others, fields, any_hand)),
+             ("tell", (others, fields, any_hand)), ("tell", (others, fields, full)), ("move", (own, away)),
+             ("move", (own, away)), ("sweep", ()), ("picture", ()), ("free", (range(3),))]
+    word, choices = source.choice([form for form in forms if all(form[1])])
+    return (word,) + numbers(*choices)
+
+
+def drawn_step(source, world):
+    """A step of a run with falls, losses and doubled packets; packets come in any order."""
+    houses, packets = range(len(world.houses)), range(max(1, len(world.net.under_way())))
+    kinds = {"at": 50, "save": 18, "come": 24, "fall": 3, "double": 2, "lose": 2, "tick": 4, "round": 2}
+    word = source.choices(list(kinds), list(kinds.values()))[0]
+    if word == "at":
+        house = source.choice(houses)
+        return ("at", house, drawn_house_step(source, world.houses[house]))
+    if word in ("save", "fall"):
+        return (word, source.choice(houses))
+    if word in ("come", "double", "lose"):
+        return (word, source.choice(packets))
+    return (word,)
+
+
+def do_gently(world, step):
+    """Does a step; whether it was refused the world tells."""
+    try:
+        world.do(step)
+    except FarError:
+        pass
+
+
+def drawn_steps(seed, way, length, many=3):
+    """So many steps of a run."""
+    source, world, steps = random.Random(seed), World(many, way), []
+    for place in range(length):
+        steps.append(drawn_step(source, world))
+        do_gently(world, steps[-1])
+    return steps
+
+
+def steps_of_round(world):
+    """The steps of a round one by one; each is to be done ahead of the next."""
+    houses = range(len(world.houses))
+    for sweeps in (False, True):
+        if sweeps:
+            yield from [("at", house, ("sweep",)) for house in houses]
+        yield from [("save", house) for house in houses]
+        while world.net.under_way():
+            yield ("come", 0)
+    yield ("tick",)
