@@ -136,7 +136,9 @@ def follow(house, number, ask, word, name):
 
 def end_move(house, number, ask, word, name):
     """The thing becomes a mark of the new one, if that came and has all that it has; else it is kept."""
-    if word == "value" and name is not None and house.room.entry(ask.asked) == ("thing", ask.given):
+    # A thing that were a mark of itself would lead round for ever: its own name is no new one.
+    came = word == "value" and name is not None and name != ask.asked
+    if came and house.room.entry(ask.asked) == ("thing", ask.given):
         house.room.become_mark(ask.asked, name)
         house.exchange(ask.asked, name)
         house.asks.finish(number, ("value", name))

@@ -626,6 +626,13 @@ class MoverTest(unittest.TestCase):
         house.hear(1, ("answer", 0, "value", ((1, 9), 8)))
         self.assertEqual((house.told(0), house.things()), (("kept",), (((0, 0), "thing", (None,)),)))
 
+    def test_its_own_name_is_no_new_one(self):
+        for way in WAYS:
+            house = self.moved(way)
+            before = house.things()
+            house.hear(1, ("answer", 1, "value", pointer(way, 0, 0)))
+            self.check_kept(house, before)
+
     def test_a_field_that_lapsed(self):
         house = self.moved("leases")
         house.lapse(9)

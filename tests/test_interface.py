@@ -10,6 +10,8 @@ FUNCTIONS = {
     "papers": ("wanted_holds", "cut_holds", "pointed_holds"),
     "reasons": ("wanted_for", "cut_for", "why"),
     "mail": ("mail_holds",),
+    "world": ("run",),
+    "replay": ("picture_at", "taken_holds"),
 }
 PART = ("hand_on", "got", "is_held", "pinned", "let_go", "take", "lapse", "knows", "copied")
 CLASSES = {
@@ -23,6 +25,9 @@ CLASSES = {
     "listpart": ("ListPart", PART + ("told",)),
     "weightpart": ("WeightPart", PART + ("out", "weight")),
     "leasepart": ("LeasePart", PART + ("lease",)),
+    "house": ("House", ("do", "hear", "take", "told", "lapse", "copied", "hands", "still", "things", "events",
+                        "taken")),
+    "world": ("World", ("do", "told", "picture", "histories")),
 }
 
 
