@@ -305,6 +305,18 @@ class CopiedTest(unittest.TestCase):
             house.hear(2, ("answer", 0, "mark", pointer(way, 1, 1)))
             self.assertEqual((house.hands()[2], other.hands()[2]), ((1, 1), (2, 9)))
 
+    def test_parts_that_came_of_a_picture(self):
+        for way in WAYS:
+            house = House(0, 3, way)
+            house.do(("picture",))
+            house.hear(1, ("picture", 0, 0))
+            house.hear(1, ("part", 0, 0, ((None,) * 4, ()), (), 7))
+            other = house.copied()
+            for each, count in ((other, 5), (house, 6)):
+                each.hear(2, ("picture", 0, 0))
+                each.hear(2, ("part", 0, 0, ((None,) * 4, ()), (), count))
+            self.assertEqual((house.taken()[0][1], other.taken()[0][1]), ((0, 7, 6), (0, 7, 5)))
+
     def test_taken_is_built_anew(self):
         house = house_with("lists", many=1)
         house.do(("picture",))

@@ -49,6 +49,7 @@ class PictureAtTest(unittest.TestCase):
             for number in NO_NUMBERS:
                 self.assertIsNone(picture_at(2, way, histories, (number, 0)))
             self.assertIsNone(picture_at(3, way, histories, (2, 1)))
+            self.assertIsNone(picture_at(3, way, histories, (2, 1, 0)))
             self.assertIsNone(picture_at(2, way, histories + ((),), (2, 1, 0)))
 
     def test_events_that_cannot_be_done(self):
@@ -67,6 +68,8 @@ class PictureAtTest(unittest.TestCase):
             for number in (1, 2, -1, False):
                 histories = ((made, sent, sent), (("heard", 0, number),))
                 self.assertIsNone(picture_at(2, way, histories, (3, 1)))
+            for event in (("herd", 0, 0), ("step", 0, 0), (None, 0, 0), ("heard", 0, 0, 0), ["heard", 0, 0]):
+                self.assertIsNone(picture_at(2, way, ((made, sent), (event,)), (2, 1)))
             histories = ((made, sent, sent), (("heard", 0, 0), ("heard", 0, 0)))
             self.assertIsNone(picture_at(2, way, histories, (3, 2)))
             histories = ((made, sent, sent), (("heard", 0, 0), ("heard", 0, 1), ("heard", 0, 2)))

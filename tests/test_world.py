@@ -69,6 +69,7 @@ class BadStepTest(WorldTest):
                      ("fall",), ("come",), ("come", 0, 0), ("double",), ("lose",), ("at",), ("at", 0), ("at", 0, 0, 0),
                      ("at", 0, None), ("at", 0, ()), ("at", 0, ("tick",)), ("at", 0, ["sweep"]), ("sweep",),
                      ("make", 0, 1), ("at", 0, ("at", 0, ("sweep",))), (mock.ANY, 0), (mock.ANY, 0, ("sweep",)),
+                     ("in", 0, ("sweep",)), ("", 0, ("sweep",)), ("at ", 0, ("sweep",)),
                      ("at", 0, ("make", 4, 0)), ("at", 0, ("send", 0, 0, 0))):
             self.refuses(world, step, BadStep)
 
@@ -353,13 +354,31 @@ class TooManyTest(WorldTest):
         self.assertEqual(world.net.under_way(), [])
 
     def test_a_round_when_the_second_house_saves(self):
-        world = self.crowded("weights", 19)
-        world.do(("at", 1, ("make", 0, 0)))
-        self.assertEqual(len(world.net.under_way()), 19000)
-        self.refuses(world, ("round",), TooMany)
-        self.assertEqual(world.histories()[1], (("step", ("make", 0, 0)),))
-        world.do(("fall", 1))
-        self.assertEqual(world.houses[1].hands(), NO_HANDS)
+        for way in WAYS:
+            world = self.crowded(way, 19)
+            for house in (0, 1):
+                world.do(("at", house, ("make", 0, 0)))
+            self.assertEqual(len(world.net.under_way()), 19000)
+            # House 0 can save, and house 1 can't: neither is written down.
+            self.refuses(world, ("round",), TooMany)
+            self.assertEqual(world.histories()[1], (("step", ("make", 0, 0)),))
+            for house in (0, 1):
+                world.do(("fall", house))
+                self.assertEqual(world.houses[house].hands(), NO_HANDS)
+
+    def test_a_round_when_the_houses_save_behind_their_sweep(self):
+        for way in WAYS:
+            world = run(2, way, SENT + [("round",), ("at", 0, ("make", 1, 0)), ("at", 0, ("drop", 1))])
+            for again in range(10000):
+                world.do(("at", 1, ("ask", 2, 0, 3)))
+            # Asks and answers together are too many, when all letters were heard and all houses have swept.
+            self.refuses(world, ("round",), TooMany)
+            self.assertEqual(len(world.houses[0].things()), 2)
+            self.assertIsNone(world.houses[1].told(0))
+            self.assertEqual(world.net.under_way(), [])
+            world.do(("fall", 1))
+            self.assertEqual(world.do(("round",)), ("done",))
+            self.assertEqual(len(world.houses[0].things()), 1)
 
     def test_a_round_goes_on_behind_one_that_was_refused(self):
         world = self.crowded("leases", 19)
